@@ -63,6 +63,7 @@ var (
 	errState    = errors.New("state")
 	errSyntax   = errors.New("syntax")
 	errNotFound = errors.New("notfound")
+	errProof    = errors.New("proof")
 )
 
 // codeOf returns the code that tells an error outside the package.
@@ -80,6 +81,8 @@ func codeOf(err error) int64 {
 		return ErrSyntax
 	case errors.Is(err, errNotFound):
 		return ErrNotFound
+	case errors.Is(err, errProof):
+		return ErrProof
 	}
 	return ErrInvalid
 }
